@@ -5,43 +5,17 @@ import (
 	"strings"
 
 	"lathe/api"
+	"lathe/sample"
 )
 
 // The instructions, written short.
-
-func imm(op, width, dst int8, n int) api.Instr {
-	return api.Instr{Kind: api.InAlu, Op: op, Width: width, Dst: dst, Imm: n}
-}
-
-func reg(op, width, dst, src int8) api.Instr {
-	return api.Instr{Kind: api.InAlu, Op: op, Width: width, Dst: dst, ByReg: true, Src: src}
-}
-
-func movi(dst int8, n int) api.Instr { return imm(api.Mov, 64, dst, n) }
-
-func mov(dst, src int8) api.Instr { return reg(api.Mov, 64, dst, src) }
-
-func load(size, dst, src int8, off int) api.Instr {
-	return api.Instr{Kind: api.InLoad, Size: size, Dst: dst, Src: src, Off: off}
-}
-
-func store(size, dst, src int8, off int) api.Instr {
-	return api.Instr{Kind: api.InStore, Size: size, Dst: dst, Src: src, Off: off}
-}
-
-func jumpImm(cc, dst int8, n, off int) api.Instr {
-	return api.Instr{Kind: api.InJump, Op: cc, Dst: dst, Imm: n, Off: off}
-}
-
-func jumpReg(cc, dst, src int8, off int) api.Instr {
-	return api.Instr{Kind: api.InJump, Op: cc, Dst: dst, ByReg: true, Src: src, Off: off}
-}
-
-func goTo(off int) api.Instr { return api.Instr{Kind: api.InGoto, Off: off} }
-
-func call(num int) api.Instr { return api.Instr{Kind: api.InCall, Imm: num} }
-
-var exit = api.Instr{Kind: api.InExit}
+var (
+	imm, reg, movi, mov          = sample.Imm, sample.Reg, sample.Movi, sample.Mov
+	load, store                  = sample.Load, sample.Store
+	jumpImm, jumpReg, goTo, call = sample.JumpImm, sample.JumpReg, sample.Goto, sample.Call
+	exit                         = sample.Exit
+	needs                        = sample.Needs
+)
 
 // word tells instructions that make dst any number. The sign of the lower half reaches into the upper one, which undoes that beforehand.
 func word(dst int8, v uint64) []api.Instr {
@@ -187,34 +161,6 @@ func (w *plain) put(at uint64, n int, v uint64) bool {
 		v /= 256
 	}
 	return true
-}
-
-// needs tells the registers that an instruction reads.
-func needs(x api.Instr) []int8 {
-	var l []int8
-	switch x.Kind {
-	case api.InAlu:
-		if x.Op != api.Mov {
-			l = append(l, x.Dst)
-		}
-		if x.ByReg {
-			l = append(l, x.Src)
-		}
-	case api.InLoad:
-		l = append(l, x.Src)
-	case api.InStore:
-		l = append(l, x.Dst, x.Src)
-	case api.InJump:
-		l = append(l, x.Dst)
-		if x.ByReg {
-			l = append(l, x.Src)
-		}
-	case api.InCall:
-		l = append(l, []int8{1, 2, 3, 4, 5}[:x.Imm%6]...)
-	case api.InExit:
-		l = append(l, 0)
-	}
-	return l
 }
 
 // computed tells what an operation makes of two numbers.

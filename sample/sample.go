@@ -1,4 +1,4 @@
-// Package sample is what the tests of several layers have in common: instructions, written short.
+// Package sample is what the tests of several layers have in common: instructions and steps, written short, and numbers to make some of.
 package sample
 
 import "lathe/api"
@@ -82,4 +82,43 @@ func Needs(x api.Instr) []int8 {
 		l = append(l, 0)
 	}
 	return l
+}
+
+// Take tells the step that makes a scratch register what is in a source register.
+func Take(phys, reg int8) api.Ir {
+	return api.Ir{Kind: api.IrTake, Reg: reg, Phys: phys}
+}
+
+// Give tells the step that makes a source register what is in a scratch register.
+func Give(reg, phys int8) api.Ir {
+	return api.Ir{Kind: api.IrGive, Reg: reg, Phys: phys}
+}
+
+// Step tells the step of a target instruction.
+func Step(x api.X) api.Ir {
+	return api.Ir{Kind: api.IrX, X: x}
+}
+
+// Jump tells the step that goes on at a block if a condition of the target holds.
+func Jump(cc int8, to int) api.Ir {
+	return api.Ir{Kind: api.IrJump, X: api.X{Op: api.XJcc, Cc: cc}, To: to}
+}
+
+// Stream tells numbers, the same ones each time.
+type Stream uint64
+
+// Word tells a number of 64 bits, whose lowest bits soon repeat.
+func (s *Stream) Word() uint64 {
+	*s = *s*6364136223846793005 + 1442695040888963407
+	return uint64(*s)
+}
+
+// Below tells a number from 0 to n - 1.
+func (s *Stream) Below(n int) int {
+	return int(s.Word() >> 33 % uint64(n))
+}
+
+// Pick tells one of some things.
+func Pick[T any](s *Stream, l ...T) T {
+	return l[s.Below(len(l))]
 }
